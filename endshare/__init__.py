@@ -1,0 +1,1 @@
+"""Endshare: records shared by two hands who write numbers from unlike ends."""
