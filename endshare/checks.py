@@ -1,10 +1,12 @@
-"""What is refused before anything is told of fields, hands and gaps."""
+"""What is refused before anything is told."""
 
-from endshare.errors import BadFields, BadHand, BadNumber
+from endshare.errors import BadDeed, BadFields, BadHand, BadMemory, BadNumber
+from endshare.figures import LIMITS
 
 LETTERS = "abcdefghijklmnopqrstuvwxyz"
 LONGEST_NAME = 6
 MOST_FIELDS = 6
+MOST_DEEDS = 3
 SIZES = (1, 2, 4)
 ORDERS = ("great", "small")
 WAYS = ("up", "down")
@@ -20,13 +22,22 @@ def is_size(number):
     return is_whole(number) and number in SIZES
 
 
-def is_name(name):
+def are_small_letters(text):
     # Letter by letter, because islower() also takes letters beyond a to z.
-    return 1 <= len(name) <= LONGEST_NAME and all(sign in LETTERS for sign in name)
+    return len(text) >= 1 and all(sign in LETTERS for sign in text)
+
+
+def is_name(name):
+    return len(name) <= LONGEST_NAME and are_small_letters(name)
 
 
 def is_gap(number):
     return is_whole(number) and 0 <= number <= MOST_GAP
+
+
+def can_have(size, number):
+    """Tell whether so many cells can have this number."""
+    return is_whole(number) and 0 <= number < LIMITS[size]
 
 
 def check_fields(fields):
@@ -55,3 +66,29 @@ def check_gaps(fields, gaps):
     """Refuse gaps that are not one number from 0 to 9 for each field."""
     if len(gaps) != len(fields) or not all(is_gap(gap) for gap in gaps):
         raise BadNumber("the gaps are not a number from 0 to 9 for each field")
+
+
+def check_memory(memory, room):
+    """Refuse a memory that is not one number from 0 to 9 for each cell of the room."""
+    if len(memory) != room:
+        raise BadMemory(room)
+    for at, cell in enumerate(memory):
+        if not can_have(1, cell):
+            raise BadMemory(at)
+
+
+def check_programs(fields, programs):
+    """Refuse the first deed that cannot be, those of hand 0 first."""
+    sizes = dict(fields)
+    for hand, program in enumerate(programs):
+        for number, deed in enumerate(program):
+            if number >= MOST_DEEDS or not _is_deed(deed, sizes):
+                raise BadDeed(hand, number)
+
+
+def _is_deed(deed, sizes):
+    if len(deed) < 2 or deed[1] not in sizes:
+        return False
+    if deed[0] == "look":
+        return len(deed) == 2
+    return deed[0] == "put" and len(deed) == 3 and can_have(sizes[deed[1]], deed[2])

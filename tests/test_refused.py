@@ -1,9 +1,12 @@
-"""Points 2 and 3, and which refusal goes ahead of which, through all that layouts tells."""
+"""Points 2 and 3, and which refusal goes ahead of which, through all that is told of fields."""
 
 import unittest
 
 from endshare.errors import BadFields, BadHand, BadNumber
 from endshare.layouts import filled, laid, spread
+from endshare.notes import written
+from endshare.records import led, look, put, unlike
+from endshare.weaving import ends, played, torn, widened
 
 FIELDS = [("speed", 4), ("mode", 1)]
 HAND = ("great", 4, 1, "up")
@@ -40,6 +43,39 @@ BAD_HANDS = (
 )
 
 
+# HAND lays FIELDS in 8 cells. Behind fields and hands there is handed in what can
+# be, or (not right) what cannot be: either way they are refused ahead of it.
+MEMORY = [0] * 8
+NO_MEMORY = [10]
+
+
+def calls_with_a_hand(hand, right=True):
+    """Tell all that one hand is handed to, as calls of fields alone."""
+    memory, name, number = (MEMORY, "mode", 1) if right else (NO_MEMORY, "", -1)
+    return (
+        lambda fields: laid(fields, hand),
+        lambda fields: spread(fields, hand, [0] * len(fields) if right else [10]),
+        lambda fields: put(fields, hand, memory, name, number),
+        lambda fields: look(fields, hand, memory, name),
+    )
+
+
+def calls_with_hands(one, other, right=True):
+    """Tell all that both hands are handed to, as calls of fields alone."""
+    memory = MEMORY if right else NO_MEMORY
+    programs = ([("look", "mode")], []) if right else ([()], [("look", "")])
+    hands = (one, other)
+    return (
+        lambda fields: filled(fields, one, other),
+        lambda fields: led(fields, one, other, memory),
+        lambda fields: unlike(fields, one, other),
+        lambda fields: played(fields, hands, programs, [0, 1]),
+        lambda fields: ends(fields, hands, programs),
+        lambda fields: torn(fields, hands, programs),
+        lambda fields: widened(fields, hands, programs),
+    )
+
+
 def number_refused(call, *told):
     try:
         call(*told)
@@ -58,11 +94,16 @@ def why_refused(call, *told):
 
 class RefusedFields(unittest.TestCase):
     def check(self, number, fields):
-        gaps = [0] * len(fields)
         with self.subTest(fields=fields):
-            self.assertEqual(number_refused(laid, fields, HAND), number)
-            self.assertEqual(number_refused(spread, fields, HAND, gaps), number)
-            self.assertEqual(number_refused(filled, fields, HAND, HAND), number)
+            if number is None:
+                self.assertEqual(number_refused(laid, fields, HAND), None)
+                self.assertEqual(number_refused(filled, fields, HAND, HAND), None)
+                self.assertEqual(number_refused(written, fields), None)
+                return
+            for right in (True, False):
+                calls = calls_with_a_hand(HAND, right) + calls_with_hands(HAND, HAND, right)
+                for call in calls + (written,):
+                    self.assertEqual(number_refused(call, fields), number)
 
     def test_none(self):
         self.check(0, [])
@@ -114,12 +155,22 @@ class RefusedFields(unittest.TestCase):
 
 class RefusedHands(unittest.TestCase):
     def check(self, why, hand):
-        gaps = [0] * len(FIELDS)
+        # A hand that can be lays FIELDS in 8 cells only with an align of 4.
+        calls = (
+            lambda fields: laid(fields, hand),
+            lambda fields: spread(fields, hand, [0, 0]),
+            lambda fields: filled(fields, hand, HAND),
+            lambda fields: filled(fields, HAND, hand),
+            lambda fields: unlike(fields, hand, HAND),
+            lambda fields: unlike(fields, HAND, hand),
+        )
+        if why is not None:
+            for right in (True, False):
+                calls += calls_with_a_hand(hand, right)
+                calls += calls_with_hands(hand, HAND, right) + calls_with_hands(HAND, hand, right)
         with self.subTest(hand=hand):
-            self.assertEqual(why_refused(laid, FIELDS, hand), why)
-            self.assertEqual(why_refused(spread, FIELDS, hand, gaps), why)
-            self.assertEqual(why_refused(filled, FIELDS, hand, HAND), why)
-            self.assertEqual(why_refused(filled, FIELDS, HAND, hand), why)
+            for call in calls:
+                self.assertEqual(why_refused(call, FIELDS), why)
 
     def test_every_hand_that_can_be(self):
         for order in ("great", "small"):
@@ -134,24 +185,31 @@ class RefusedHands(unittest.TestCase):
 
 
 class Ahead(unittest.TestCase):
-    def test_fields_go_ahead_of_hands_and_gaps(self):
+    def test_fields_go_ahead_of_hands_and_all_else(self):
         fields = [("a", 1), ("b", 3)]
         hand = ("", 0, 0, "")
-        self.assertEqual(number_refused(laid, fields, hand), 1)
-        self.assertEqual(number_refused(spread, fields, hand, [0, 10, 0]), 1)
-        self.assertEqual(number_refused(spread, fields, HAND, [10]), 1)
-        self.assertEqual(number_refused(filled, fields, hand, HAND), 1)
-        self.assertEqual(number_refused(filled, fields, HAND, hand), 1)
+        for right in (True, False):
+            calls = calls_with_a_hand(hand, right)
+            calls += calls_with_hands(hand, HAND, right) + calls_with_hands(HAND, hand, right)
+            for call in calls:
+                self.assertEqual(number_refused(call, fields), 1)
 
     def test_the_first_hand_goes_ahead_of_the_second(self):
         no_order = ("", 4, 1, "up")
         no_way = ("great", 4, 1, "")
-        self.assertEqual(why_refused(filled, FIELDS, no_order, no_way), "order")
-        self.assertEqual(why_refused(filled, FIELDS, no_way, no_order), "way")
+        for right in (True, False):
+            for call in calls_with_hands(no_order, no_way, right):
+                self.assertEqual(why_refused(call, FIELDS), "order")
+            for call in calls_with_hands(no_way, no_order, right):
+                self.assertEqual(why_refused(call, FIELDS), "way")
 
     def test_a_hand_goes_ahead_of_gaps(self):
         for gaps in ([], [0], [0, 0, 0], [0, 10], [-1, 0]):
             self.assertEqual(why_refused(spread, FIELDS, ("great", 4, 3, "up"), gaps), "wide")
+
+    def test_nothing_is_refused_of_what_can_be(self):
+        for call in calls_with_a_hand(HAND) + calls_with_hands(HAND, HAND):
+            call(FIELDS)
 
 
 class RefusedGaps(unittest.TestCase):
